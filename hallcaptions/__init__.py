@@ -1,0 +1,1 @@
+"""Captions: what a live writer writes goes to a screen in whole words and whole lines."""

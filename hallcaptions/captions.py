@@ -1,6 +1,8 @@
 """Captions, and the answers to a list of calls on them."""
 
+from hallcaptions.alone import cues, judge, lay, pack
 from hallcaptions.characters import bytes_of
+from hallcaptions.counts import counted
 from hallcaptions.course import Course, Rules
 from hallcaptions.edits import edits_of, greatest_length, in_order, puts_all, sizes_fit
 
@@ -63,6 +65,12 @@ class Captions:
             return [-1]
         return [0] + counted(bytes_of(window[which]))
 
+    def state(self):
+        if self.course is None:
+            return [-9]
+        written = len(self.course.written.characters)
+        return [0, written, self.course.released, self.course.gone, self.course.told, self.course.now]
+
 
 # Keeps the place up to which a list of calls is read, so that the list itself stays as it is.
 class Reader:
@@ -84,11 +92,6 @@ class Reader:
         return self.numbers[begin:self.place]
 
 
-# A reader of answers can't tell where a text ends but by how many bytes it has.
-def counted(numbers):
-    return [len(numbers)] + numbers
-
-
 def read_rules(reader):
     width = reader.number()
     rows = reader.number()
@@ -106,6 +109,36 @@ def answer_feed(captions, reader):
     return captions.feed(now, numbers, text)
 
 
+def answer_lay(reader):
+    width = reader.number()
+    return lay(width, reader.counted_row())
+
+
+def answer_pack(reader):
+    clear = reader.number()
+    ticks = reader.number()
+    back = reader.number()
+    return pack(clear, ticks, back, reader.counted_row())
+
+
+def answer_cues(reader):
+    rows = reader.number()
+    end = reader.number()
+    return cues(rows, end, reader.counted_row())
+
+
+def answer_alone(call, reader):
+    if call == 6:
+        return answer_lay(reader)
+    if call == 7:
+        return answer_pack(reader)
+    if call == 8:
+        return judge(reader.counted_row())
+    if call == 9:
+        return answer_cues(reader)
+    raise UnknownCall("no call has this number")
+
+
 def answer_call(captions, reader):
     call = reader.number()
     if call == 0:
@@ -118,7 +151,9 @@ def answer_call(captions, reader):
         return captions.next_one()
     if call == 4:
         return captions.row(reader.number())
-    raise UnknownCall("no call has this number")
+    if call == 5:
+        return captions.state()
+    return answer_alone(call, reader)
 
 
 # Each time on new captions: nothing is kept from one list of calls to the next.

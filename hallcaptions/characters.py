@@ -59,3 +59,7 @@ def bytes_of(characters):
     for character in characters:
         numbers.extend(character)
     return numbers
+
+
+def are_characters(numbers):
+    return len(bytes_of(characters_of(numbers))) == len(numbers)

@@ -1,5 +1,6 @@
 """The course of captions from a begin on: what's written, released, shown and told, tick by tick."""
 
+from hallcaptions.bounds import rows_fit, width_fits
 from hallcaptions.lines import last_line_end, lay_from, settled
 from hallcaptions.tellings import change_between, clearing_at
 from hallcaptions.written import nothing_written
@@ -18,7 +19,7 @@ class Rules:
         self.blank = blank
 
     def allowed(self):
-        if not 16 <= self.width <= 96 or not 1 <= self.rows <= 8:
+        if not width_fits(self.width) or not rows_fit(self.rows):
             return False
         if self.hold > 30000 or self.idle < self.hold or not 1 <= self.idle <= 600000:
             return False

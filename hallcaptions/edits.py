@@ -1,11 +1,9 @@
 """Edits: what a feed hands in, and whether it may."""
 
+from hallcaptions.bounds import MOST_BYTES, NUMBERS_END
 from hallcaptions.characters import bytes_of, characters_of
 
 MOST_NUMBERS = 768
-MOST_BYTES = 4096
-# 2 to the 40th: no tick comes to it.
-TICKS_END = 1099511627776
 
 
 class Edit:
@@ -38,7 +36,7 @@ def puts_all(edits, text):
 
 
 def in_order(edits, before, now):
-    if now < before or now >= TICKS_END:
+    if now < before or now >= NUMBERS_END:
         return False
     latest = before
     for edit in edits:

@@ -87,3 +87,8 @@ def joined(rows):
         text.append(LINE_FEED)
         text.extend(row)
     return text
+
+
+def laid_text(text, width):
+    lines = lay_from(text, 0, len(text), len(text), width)
+    return joined([line.characters for line in lines])

@@ -4,6 +4,7 @@ from hallcaptions.captions import answers
 
 WAITING = [2]
 NEXT = [3]
+STATE = [5]
 
 
 def coded(text):
@@ -31,6 +32,24 @@ def feed(now, *edits):
 
 def row(which):
     return [4, which]
+
+
+def lay(width, text):
+    text = coded(text)
+    return [6, width, len(text)] + text
+
+
+def pack(clear, ticks, back, text):
+    text = coded(text)
+    return [7, clear, ticks, back, len(text)] + text
+
+
+def judge(numbers):
+    return [8, len(numbers)] + list(numbers)
+
+
+def cues(rows, end, numbers):
+    return [9, rows, end, len(numbers)] + list(numbers)
 
 
 def parted(told):
@@ -75,3 +94,39 @@ def window(*calls):
     """The rows of the window behind calls."""
     told = ask(*calls, *[row(which) for which in range(8)])[len(calls):]
     return [bytes(part[2:]).decode("utf-8") for part in told if part[0] == 0]
+
+
+def sevens(number):
+    """A number as it stands among the bytes of tellings."""
+    numbers = []
+    while number > 127:
+        numbers.append(128 | number & 127)
+        number >>= 7
+    return numbers + [number]
+
+
+def change_bytes(ticks, back, put):
+    put = coded(put)
+    return [1] + sevens(ticks) + sevens(back) + sevens(len(put)) + put
+
+
+def clearing_bytes(ticks):
+    return [2] + sevens(ticks)
+
+
+def parted_cues(told):
+    """The cues of an answer: from, to, the rows' texts."""
+    assert told[0] == 0, told
+    found = []
+    place = 2
+    for _ in range(told[1]):
+        begins, ends, count = told[place:place + 3]
+        place += 3
+        rows = []
+        for _ in range(count):
+            size = told[place]
+            rows.append(bytes(told[place + 1:place + 1 + size]).decode("utf-8"))
+            place += 1 + size
+        found.append((begins, ends, rows))
+    assert place == len(told), told
+    return found

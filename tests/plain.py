@@ -4,7 +4,7 @@ Slow, and written apart from the program, to hold the program's answers against.
 """
 
 
-def lay(text, width):
+def plain_lines(text, width):
     lines = []
     for part in text.split("\n"):
         pieces = []
@@ -120,8 +120,8 @@ class PlainCaptions:
             return True
         if place < self.gone:
             return False
-        some = lay(self.text[self.gone:place], width)
-        every = lay(self.text[self.gone:], width)
+        some = plain_lines(self.text[self.gone:place], width)
+        every = plain_lines(self.text[self.gone:], width)
         return len(every) > len(some) and every[:len(some)] == some
 
     def release(self, tick):
@@ -137,7 +137,7 @@ class PlainCaptions:
     def go_through(self, tick):
         width, blank = self.rules[0], self.rules[5]
         self.release(tick)
-        screen = "\n".join(lay(self.text[self.gone:self.released], width))
+        screen = "\n".join(plain_lines(self.text[self.gone:self.released], width))
         if screen != self.screen:
             same = 0
             while screen[same:same + 1] == self.screen[same:same + 1] != "":
@@ -173,6 +173,134 @@ class PlainCaptions:
         put = list(rows[which].encode("utf-8"))
         return [0, len(put)] + put
 
+    def state(self):
+        if self.rules is None:
+            return [-9]
+        return [0, len(self.text), self.released, self.gone, self.told or 0, self.now]
+
+
+def plain_lay(width, text):
+    text = characters(text) if len(text) <= 4096 else None
+    if text is None or width not in range(16, 97):
+        return [-1]
+    put = list("\n".join(plain_lines(text, width)).encode("utf-8"))
+    return [0, len(put)] + put
+
+
+def plain_number(number):
+    """In sevens of bits, cut from its digits in base two."""
+    digits = bin(number)[2:]
+    digits = "0" * (-len(digits) % 7) + digits
+    parts = [int(digits[k:k + 7], 2) for k in range(0, len(digits), 7)][::-1]
+    return [part + 128 for part in parts[:-1]] + parts[-1:]
+
+
+def plain_pack(clear, ticks, back, text):
+    if clear not in (0, 1) or max(ticks, back) >= 2 ** 40 or len(text) > 4096 or characters(text) is None:
+        return [-1]
+    if clear == 0 and (back, text) == (0, []) or clear == 1 and (back, text) != (0, []):
+        return [-1]
+    put = [2] + plain_number(ticks)
+    if clear == 0:
+        put = [1] + plain_number(ticks) + plain_number(back) + plain_number(len(text)) + text
+    return [0, len(put)] + put
+
+
+def plain_place(numbers):
+    """The place of the first that isn't a character, or None."""
+    try:
+        text = bytes(numbers).decode("utf-8")
+        stop = None
+    except UnicodeDecodeError as error:
+        text = bytes(numbers[:error.start]).decode("utf-8")
+        stop = error.start
+    for place, sign in enumerate(text):
+        if sign != "\n" and (ord(sign) < 32 or ord(sign) == 127):
+            return len(text[:place].encode("utf-8"))
+    return stop
+
+
+class PlainFault(Exception):
+    pass
+
+
+def plain_read(numbers):
+    """The telling at the beginning: kind, ticks, back, put, how many bytes. Faults 1 to 4 are raised."""
+    if numbers[0] not in (1, 2):
+        raise PlainFault(1, 0)
+    place = 1
+    values = []
+    for _ in range(3 if numbers[0] == 1 else 1):
+        size = 1
+        while numbers[place + size - 1:] and numbers[place + size - 1] > 127:
+            size += 1
+        part = numbers[place:place + size]
+        value = sum((number & 127) << 7 * k for k, number in enumerate(part))
+        if len(part) < size or size > 1 and part[-1] == 0 or value >= 2 ** 40:
+            raise PlainFault(2, place)
+        place += size
+        values.append(value)
+    if numbers[0] == 2:
+        return 2, values[0], 0, "", place
+    if place + values[2] > len(numbers):
+        raise PlainFault(3, len(numbers))
+    part = numbers[place:place + values[2]]
+    if plain_place(part) is not None:
+        raise PlainFault(4, place + plain_place(part))
+    return 1, values[0], values[1], characters(part), place + values[2]
+
+
+def plain_screens(numbers):
+    """Of each telling its tick and the screen's text from then on. A fault is raised."""
+    screens = []
+    text = ""
+    tick = 0
+    begins = 0
+    while begins < len(numbers):
+        try:
+            kind, ticks, back, put, size = plain_read(numbers[begins:])
+        except PlainFault as fault:
+            raise PlainFault(fault.args[0], begins + fault.args[1])
+        tick += ticks
+        if back > len(text):
+            raise PlainFault(5, begins)
+        if tick >= 2 ** 40:
+            raise PlainFault(6, begins)
+        if screens and ticks == 0 or kind == 1 and back == 0 and put == "" or kind == 2 and text == "":
+            raise PlainFault(7, begins)
+        text = text[:len(text) - back] + put if kind == 1 else ""
+        screens.append((tick, text))
+        begins += size
+    return screens
+
+
+def plain_judge(numbers):
+    try:
+        return [len(plain_screens(numbers))]
+    except PlainFault as fault:
+        return [-2, fault.args[0], fault.args[1]]
+
+
+def plain_cues(rows, end, numbers):
+    try:
+        screens = plain_screens(numbers)
+    except PlainFault:
+        return [-1]
+    if rows not in range(1, 9) or end >= 2 ** 40:
+        return [-1]
+    count = 0
+    told = []
+    for (tick, text), after in zip(screens, screens[1:] + [(end, "")]):
+        until = min(after[0], end)
+        if text == "" or until <= tick:
+            continue
+        count += 1
+        window = text.split("\n")[-rows:]
+        told += [tick, until, len(window)]
+        for row in window:
+            told += [len(row.encode("utf-8"))] + list(row.encode("utf-8"))
+    return [0, count] + told
+
 
 def plain_answers(calls):
     """What the program is to answer, one list for each call."""
@@ -190,4 +318,14 @@ def plain_answer(captions, call):
         return captions.waiting()
     if call[0] == 3:
         return captions.next_one()
-    return captions.row(call[1])
+    if call[0] == 4:
+        return captions.row(call[1])
+    if call[0] == 5:
+        return captions.state()
+    if call[0] == 6:
+        return plain_lay(call[1], call[3:])
+    if call[0] == 7:
+        return plain_pack(call[1], call[2], call[3], call[5:])
+    if call[0] == 8:
+        return plain_judge(call[2:])
+    return plain_cues(call[1], call[2], call[4:])

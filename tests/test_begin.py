@@ -2,7 +2,7 @@
 
 import unittest
 
-from tests.calls import NEXT, WAITING, ask, begin, change, feed, row, shown
+from tests.calls import NEXT, STATE, WAITING, ask, begin, change, cues, feed, judge, lay, pack, row, shown
 
 GOOD = dict(width=16, rows=2, hold=100, idle=1000, byline=0, blank=0)
 
@@ -46,15 +46,20 @@ class Bounds(unittest.TestCase):
 
 class NotBegun(unittest.TestCase):
     def test_each_call(self):
-        for call in (feed(0), feed(5, (0, 0, "a ")), WAITING, NEXT, row(0), row(9)):
+        for call in (feed(0), feed(5, (0, 0, "a ")), WAITING, NEXT, row(0), row(9), STATE):
             self.assertEqual(ask(call), [[-9]])
+
+    def test_calls_that_need_no_begin(self):
+        for call in (lay(16, "a"), pack(0, 1, 0, "a"), judge([]), cues(1, 9, [])):
+            self.assertGreaterEqual(ask(call)[0][0], 0)
+            self.assertEqual(ask(call, STATE)[1], [-9])
 
     def test_comes_before_what_else_would_be_refused(self):
         self.assertEqual(ask([1, 2 ** 40, 1, 7, 1, 255]), [[-9]])
 
     def test_behind_a_refused_begin(self):
-        calls = [good_but(width=15), feed(5, (0, 0, "a ")), WAITING, NEXT, row(0)]
-        self.assertEqual(ask(*calls), [[-1], [-9], [-9], [-9], [-9]])
+        calls = [good_but(width=15), feed(5, (0, 0, "a ")), WAITING, NEXT, row(0), STATE]
+        self.assertEqual(ask(*calls), [[-1], [-9], [-9], [-9], [-9], [-9]])
 
     def test_a_begin_behind_a_refused_one(self):
         self.assertEqual(ask(good_but(rows=9), good_but(), WAITING), [[-1], [0], [0]])

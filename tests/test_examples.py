@@ -2,7 +2,7 @@
 
 import unittest
 
-from tests.calls import NEXT, WAITING, ask, begin, change, feed, row, shown
+from tests.calls import NEXT, WAITING, ask, begin, change, cues, feed, judge, row, shown
 
 
 class Examples(unittest.TestCase):
@@ -47,6 +47,16 @@ class Examples(unittest.TestCase):
     def test_nothing_is_told_before_its_tick_is_past(self):
         calls = [begin(16, 2, 100, 1000), feed(50, (0, 0, "so we ")), feed(100), WAITING, feed(101), WAITING]
         self.assertEqual(ask(*calls), [[0], [0], [0], [0], [0], [1]])
+
+    def test_a_clearing_of_an_empty_screen(self):
+        self.assertEqual(ask(judge([2, 0])), [[-2, 7, 0]])
+
+    def test_one_telling(self):
+        numbers = [1, 5, 0, 1, 97]
+        self.assertEqual(ask(judge(numbers), cues(1, 9, numbers)), [[1], [0, 1, 5, 9, 1, 1, 97]])
+
+    def test_no_bytes(self):
+        self.assertEqual(ask(judge([]), cues(1, 9, [])), [[0], [0, 0]])
 
 
 if __name__ == "__main__":

@@ -3,7 +3,7 @@
 import unittest
 
 from tests.calls import begin, feed, tellings, window
-from tests.plain import lay
+from tests.plain import plain_lines
 
 
 def laid(text, width=16):
@@ -68,19 +68,19 @@ class Words(unittest.TestCase):
     def test_widths(self):
         text = "so I went on and so forth and then some of it again and more of that and all of the rest"
         for width in (16, 17, 40, 95, 96):
-            self.assertEqual(laid(text, width), "\n".join(lay(text, width)))
+            self.assertEqual(laid(text, width), "\n".join(plain_lines(text, width)))
 
 
 class PlainLay(unittest.TestCase):
     """What the program is held against is itself held against the document's words."""
 
     def test_empty(self):
-        self.assertEqual(lay("", 16), [""])
+        self.assertEqual(plain_lines("", 16), [""])
 
     def test_words(self):
-        self.assertEqual(lay(" so  I went on and so ", 16), ["so I went on and", "so"])
-        self.assertEqual(lay("\na\n", 16), ["", "a", ""])
-        self.assertEqual(lay("b " + "a" * 33, 16), ["b", "a" * 16, "a" * 16, "a"])
+        self.assertEqual(plain_lines(" so  I went on and so ", 16), ["so I went on and", "so"])
+        self.assertEqual(plain_lines("\na\n", 16), ["", "a", ""])
+        self.assertEqual(plain_lines("b " + "a" * 33, 16), ["b", "a" * 16, "a" * 16, "a"])
 
 
 class Window(unittest.TestCase):

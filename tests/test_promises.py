@@ -3,9 +3,11 @@
 import random
 import unittest
 
-from tests.calls import NEXT, ask, begin, feed, row, tellings, window
-from tests.plain import lay, plain_answers
-from tests.wild import wild_calls, wild_edits, wild_text
+from tests.calls import (
+    NEXT, STATE, ask, begin, cues, feed, judge, lay, pack, parted_cues, row, tellings, window,
+)
+from tests.plain import plain_answers, plain_lines, plain_screens
+from tests.wild import wild_calls, wild_edits, wild_mixed, wild_text
 
 
 def screens(told):
@@ -22,10 +24,27 @@ def screens(told):
     return texts
 
 
+def packed(told):
+    """The bytes of what captions told, packed one behind another."""
+    numbers = []
+    last = 0
+    for answer in told:
+        part = ask(pack(answer[1] - 1, answer[2] - last, answer[3], answer[5:]))[0]
+        assert part[0] == 0, answer
+        numbers += part[2:]
+        last = answer[2]
+    return numbers
+
+
 class AsTheWordsSay(unittest.TestCase):
     def test_wild_calls(self):
         for seed in range(1500):
             calls = wild_calls(seed)
+            self.assertEqual(ask(*calls), plain_answers(calls), seed)
+
+    def test_all_ten_calls(self):
+        for seed in range(600):
+            calls = wild_mixed(seed)
             self.assertEqual(ask(*calls), plain_answers(calls), seed)
 
 
@@ -51,10 +70,12 @@ class Promise1(unittest.TestCase):
             edits = wild_edits(draw, 0, 60) + wild_edits(draw, 60, 99)
             whole = tellings(rules, feed(150, *edits))
             shown = window(rules, feed(150, *edits))
+            state = ask(rules, feed(150, *edits), STATE)[-1]
             for _ in range(5):
                 feeds = self.cut(draw, edits, 150)
                 self.assertEqual(tellings(rules, *feeds), whole, seed)
                 self.assertEqual(window(rules, *feeds), shown, seed)
+                self.assertEqual(ask(rules, *feeds, STATE)[-1], state, seed)
 
     def test_one_tick_at_a_time(self):
         edits = [(3, 0, "so "), (3, 1, "on "), (9, 2, "me of it "), (9, 0, "went"), (14, 0, " on ")]
@@ -80,9 +101,22 @@ class Promise2(unittest.TestCase):
 
     def test_every_telling_says_something(self):
         for seed in range(300):
-            told = [part for part in ask(*wild_calls(seed)) if part[0] == 0 and len(part) >= 5 and part[1] in (1, 2)]
-            for part in told:
-                self.assertTrue(part[1] == 2 or part[3] > 0 or part[4] > 0)
+            calls = wild_calls(seed)
+            for call, part in zip(calls, ask(*calls)):
+                if call == NEXT and part[0] == 0:
+                    self.assertTrue(part[1] == 2 or part[3] > 0 or part[4] > 0)
+
+    def test_state_tells_the_last_one(self):
+        for seed in range(300):
+            draw = random.Random(seed)
+            rules = wild_calls(seed)[0]
+            edits = wild_edits(draw, 0, 60) + wild_edits(draw, 60, 99)
+            told = tellings(rules, feed(120, *edits))
+            for count in (0, len(told) // 2, len(told)):
+                state = ask(rules, feed(120, *edits), *[NEXT] * count, STATE)[-1]
+                self.assertEqual(state[4], told[-1][2] if told else 0, seed)
+                self.assertTrue(0 <= state[3] <= state[2] <= state[1], seed)
+                self.assertEqual(state[5], 120)
 
 
 class Promise3(unittest.TestCase):
@@ -139,8 +173,10 @@ class Promise5(unittest.TestCase):
                 written = written[:max(0, len(written) - back)] + put
             early = screens(tellings(rules, feed(99 + idle, *edits)))
             late = screens(tellings(rules, feed(100 + idle, *edits)))
-            self.assertEqual(late[-1], (99 + idle, "\n".join(lay(written, 16))), seed)
+            self.assertEqual(late[-1], (99 + idle, "\n".join(plain_lines(written, 16))), seed)
             self.assertEqual(late[:-1], early, seed)
+            state = ask(rules, feed(100 + idle, *edits), STATE)[-1]
+            self.assertEqual(state, [0, len(written), len(written), 0, 99 + idle, 100 + idle], seed)
 
 
 class Promise6(unittest.TestCase):
@@ -153,6 +189,7 @@ class Promise6(unittest.TestCase):
             text = wild_text(draw, 120)
             told = tellings(begin(width=width, hold=5, idle=5), feed(6, (0, 0, text)))
             lines = bytes(told[0][5:]).decode("utf-8").split("\n")
+            self.assertEqual(ask(lay(width, text))[0][1:], told[0][4:], seed)
             self.assertTrue(all(len(line) <= width for line in lines), seed)
             self.assertTrue(all(line == " ".join(line.split(" ")) == line.strip(" ") for line in lines))
             self.assertEqual("".join(lines).replace(" ", ""), text.replace(" ", "").replace("\n", ""))
@@ -181,8 +218,97 @@ class Promise6(unittest.TestCase):
         return len(parts)
 
 
+class Promise7(unittest.TestCase):
+    """Bytes of tellings are judged well and read as they were."""
+
+    def test_what_captions_told(self):
+        for seed in range(300):
+            draw = random.Random(seed)
+            rules = wild_calls(seed)[0]
+            told = tellings(rules, feed(120, *wild_edits(draw, 0, 60), *wild_edits(draw, 60, 99)))
+            self.assertEqual(ask(judge(packed(told))), [[len(told)]], seed)
+            self.assertEqual(plain_screens(packed(told)), screens(told), seed)
+
+    def test_what_pack_gives(self):
+        for seed in range(300):
+            draw = random.Random(seed)
+            length = 0
+            told = []
+            tick = draw.choice([0, 1, 127, 128])
+            for _ in range(draw.randint(1, 20)):
+                put = wild_text(draw, draw.choice([1, 5, 50])) if draw.random() < 0.8 else ""
+                back = draw.randint(0, length)
+                if length > 0 and draw.random() < 0.2:
+                    told.append([0, 2, tick, 0, 0])
+                    length = 0
+                elif back or put:
+                    told.append([0, 1, tick, back, len(put.encode("utf-8"))] + list(put.encode("utf-8")))
+                    length += len(put) - back
+                tick += draw.choice([1, 127, 128, 16383, 16384, 2 ** 35])
+            numbers = packed(told)
+            self.assertEqual(ask(judge(numbers)), [[len(told)]], seed)
+            self.check_read(told, numbers)
+
+    def check_read(self, told, numbers):
+        """Each telling's tick and screen, as the cues of all rows show them where there are no more than eight."""
+        found = parted_cues(ask(cues(8, 2 ** 40 - 1, numbers))[0])
+        shown = [(at, text.split("\n")[-8:]) for at, text in screens(told) if text != ""]
+        self.assertEqual([(begins, rows) for begins, _, rows in found], shown)
+
+    def test_cut_anywhere_they_are_not_judged_well(self):
+        told = tellings(begin(blank=3), feed(30, (3, 0, "so we "), (9, 4, "\u20ac "), (12, 0, "on ")))
+        numbers = packed(told)
+        begins = {len(packed(told[:count])): count for count in range(len(told) + 1)}
+        for stop in range(len(numbers) + 1):
+            part = ask(judge(numbers[:stop]))[0]
+            self.assertEqual(part, [begins[stop]] if stop in begins else [-2, part[1], part[2]])
+
+
+class Promise8(unittest.TestCase):
+    """Cues are in order, do not overlap, and show at each tick what stood on the screen."""
+
+    def test_in_order(self):
+        for seed in range(300):
+            draw = random.Random(seed)
+            rules = wild_calls(seed)[0]
+            told = tellings(rules, feed(120, *wild_edits(draw, 0, 60), *wild_edits(draw, 60, 99)))
+            for end in (0, 30, 70, 120, 500):
+                last = 0
+                for begins, ends, rows in parted_cues(ask(cues(draw.randint(1, 8), end, packed(told)))[0]):
+                    self.assertTrue(last <= begins < ends <= end, seed)
+                    last = ends
+
+    def test_at_each_tick_what_row_told(self):
+        for seed in range(60):
+            draw = random.Random(seed)
+            rules = wild_calls(seed)[0]
+            edits = wild_edits(draw, 0, 30) + wild_edits(draw, 30, 49)
+            end = draw.choice([40, 60])
+            told = tellings(rules, feed(60, *edits))
+            stood = {}
+            for begins, ends, rows in parted_cues(ask(cues(rules[2], end, packed(told)))[0]):
+                stood.update({tick: rows for tick in range(begins, ends)})
+            for tick in range(end):
+                calls = [rules, feed(tick + 1, *[edit for edit in edits if edit[0] <= tick])]
+                self.assertEqual(stood.get(tick, [""]), window(*calls), (seed, tick))
+            self.assertTrue(all(tick < end for tick in stood))
+
+
 class Promise9(unittest.TestCase):
     """Refusals change nothing."""
+
+    def test_all_ten_calls(self):
+        seen = {}
+        for seed in range(600):
+            calls = wild_mixed(seed)
+            told = ask(*calls)
+            kept = [call for call, part in zip(calls, told) if part[0] >= 0]
+            for call, part in zip(calls, told):
+                seen[call[0], part[0] < 0] = True
+            if kept:
+                self.assertEqual(ask(*kept), [part for part in told if part[0] >= 0], seed)
+        # Each call was answered and refused.
+        self.assertEqual(set(seen), {(call, refused) for call in range(10) for refused in (False, True)})
 
     def test_calls_without_those_that_were_refused(self):
         refused = 0
@@ -202,6 +328,13 @@ class Promise9(unittest.TestCase):
             [1, 2 ** 40 - 1, 1, 3, 0],
             [1, 2 ** 40 - 1, 3, 2 ** 40 - 1, 0, 1, 1, 200],
             row(8),
+            lay(15, "a"),
+            lay(16, [200]),
+            pack(2, 0, 0, ""),
+            pack(0, 0, 0, ""),
+            pack(1, 0, 0, "a"),
+            cues(0, 9, []),
+            cues(1, 9, [2, 0]),
         ]
         for seed in range(100):
             draw = random.Random(seed)
